@@ -1165,11 +1165,17 @@ func TestRedoP25_4(t *testing.T) {
 	}
 }
 
-func TestProbeP25_4(t *testing.T) {
+// openShut makes an end that is established, to a peer that has no window.
+func openShut(t *testing.T) *hand {
 	x, _ := conn.Accept(config(), syn(), 0)
 	h := &hand{Conn: x, t: t, seq: irs + 1}
 	h.out()
-	h.ack(iss + 1) // no window
+	h.ack(iss + 1)
+	return h
+}
+
+func TestProbeP25_4(t *testing.T) {
+	h := openShut(t)
 	h.state(3)
 	same(t, "Asleep", h.Info().Asleep, true)
 	h.write(20)
@@ -1203,11 +1209,27 @@ func TestProbeP25_4(t *testing.T) {
 	h.ack(iss + 21)
 	same(t, "Asleep", h.Info().Asleep, true)
 
+	// The peer says where it waits, in a segment that says nothing else: what is
+	// told then lies there.
+	h = openShut(t)
+	h.write(20)
+	h.next(10)
+	h.tells([2]uint32{iss + 1, iss + 2})
+	for _, ack := range []uint32{iss + 2, iss + 1, iss + 2, iss} {
+		s := h.seg(api.ACK, ack, "")
+		s.Seq--
+		h.in(s)
+		want := ack
+		if ack == iss {
+			want = iss + 1
+		}
+		if l := h.out(); len(l) != 1 || l[0].Seq != want {
+			t.Errorf("the peer waits for %d: Out tells %+v", ack, l)
+		}
+		same(t, "Una", h.Info().Una, uint32(iss+1))
+	}
 	// The octet was taken.
-	x, _ = conn.Accept(config(), syn(), 0)
-	h = &hand{Conn: x, t: t, seq: irs + 1}
-	h.out()
-	h.ack(iss + 1)
+	h = openShut(t)
 	h.write(20)
 	h.Shut()
 	h.next(10)
@@ -1227,10 +1249,7 @@ func TestProbeP25_4(t *testing.T) {
 	same(t, "Err", h.Info().Err, api.ErrTimeout)
 
 	// FIN probes, too.
-	x, _ = conn.Accept(config(), syn(), 0)
-	h = &hand{Conn: x, t: t, seq: irs + 1}
-	h.out()
-	h.ack(iss + 1)
+	h = openShut(t)
 	h.Shut()
 	h.silent("no window")
 	h.next(10)
@@ -1242,10 +1261,7 @@ func TestProbeP25_4(t *testing.T) {
 	h.state(5)
 
 	// Time that ran out while the window was closed says nothing once it is open.
-	x, _ = conn.Accept(config(), syn(), 0)
-	h = &hand{Conn: x, t: t, seq: irs + 1}
-	h.out()
-	h.ack(iss + 1)
+	h = openShut(t)
 	h.write(20)
 	h.next(10)
 	h.win = 5

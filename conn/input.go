@@ -137,6 +137,7 @@ func (c *Conn) turnAway(s api.Tcp) {
 		return
 	}
 	c.due.ack = true
+	c.taken = c.probed && s.Flags&api.ACK != 0 && s.Ack == c.nxt
 	if c.state == timeWait && s.Flags&api.FIN != 0 && s.Seq+uint32(tcpwire.Length(s)) == c.next() {
 		c.rest()
 	}
@@ -183,6 +184,7 @@ func (c *Conn) acknowledge(s api.Tcp) {
 	if moved || closedEdge { // the peer is there, though its window may be closed
 		c.tries = 0
 	}
+	c.taken = false
 	if moved {
 		c.probed = false
 		c.restart()

@@ -301,6 +301,31 @@ func TestUnread(t *testing.T) {
 	}
 }
 
+// TestLazy: ends that read now and then, so that windows close on both sides.
+func TestLazy(t *testing.T) {
+	for seed := range int64(1000) {
+		w := newWay(t, seed, func(r *rand.Rand, c *conn.Config) {
+			anyConfig(r, c)
+			c.Recv = 20 + r.Intn(400)
+		})
+		w.texts(w.r.Intn(2001), w.r.Intn(2001))
+		w.bad, w.often = 12+w.r.Intn(20), 1+w.r.Intn(20)
+		lazy, over := 1+w.r.Intn(60), false
+		for ; w.now < 60000 && !over; w.now++ {
+			for _, x := range w.ends {
+				x.unread = w.r.Intn(lazy) > 0
+			}
+			w.arrive()
+			w.work(0)
+			w.work(1)
+			over = w.isOver()
+		}
+		if !over {
+			w.fail(seed)
+		}
+	}
+}
+
 // TestAnySegmentP25_8: whatever comes, and is called, the state is one of the ten.
 func TestAnySegmentP25_8(t *testing.T) {
 	for seed := range int64(3000) {
