@@ -142,9 +142,9 @@ func (h *host) connect(which, port, now int) Answer {
 	if !within(port, 0, maxPort) {
 		return Answer{Err: api.ErrArg}
 	}
-	own, e := toeplitz.Port(h.key, h.table, h.ip, h.peer, uint16(port), which, h.from)
-	if e != api.OK {
-		own = h.from // what is wrong Connect tells
+	own := h.from
+	if within(which, 0, h.count-1) { // what is wrong with another one Connect tells
+		own, _ = toeplitz.Port(h.key, h.table, h.ip, h.peer, uint16(port), which, own)
 	}
 	id, e := h.set.Connect(which, h.peer, uint16(port), own, now)
 	if e != api.OK {
