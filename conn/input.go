@@ -159,7 +159,8 @@ func (c *Conn) hear(s api.Tcp) bool {
 	} else {
 		c.acknowledge(s)
 	}
-	// An elder segment that comes late does not turn the peer's clock back.
+	// What lies behind what was acknowledged last tells no time yet: by that of a
+	// segment out of order, those ahead of it would be elder.
 	if c.stamps && s.HasTS && !sendbuf.Less(c.toldAck, s.Seq) {
 		c.recent, c.recentAt = s.TSVal, c.now
 	}

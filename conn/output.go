@@ -172,10 +172,8 @@ func (o *output) tellProbe() {
 	una, answer := o.board.Una, o.due.ack
 	o.emit(una, min(1, ahead(una, o.sending.End())), una == o.sending.End())
 	o.due.ack = answer // the peer hears no answer of a segment that it has no room for
-	if o.nxt == una {
-		o.board, _ = scoreboard.Sent(o.board, 1)
-		o.nxt++
-	}
+	o.board, _ = scoreboard.Sent(o.board, 1)
+	o.nxt = sendbuf.Max(o.nxt, una+1)
 	o.probed = true
 }
 

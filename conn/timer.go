@@ -81,6 +81,7 @@ func (c *Conn) expire() {
 		c.due.syn = true
 	case c.isHeld():
 		c.due.probe = true
+		c.rewind() // an octet that probed ahead of this is not on its way any more
 	default:
 		c.reduce(c.control.Timeout, ahead(c.board.Una, c.nxt))
 		c.redo()
@@ -88,10 +89,15 @@ func (c *Conn) expire() {
 	}
 }
 
-// redo begins to send all again that is on its way, as if nothing were.
-func (c *Conn) redo() {
+// rewind takes all that was sent for lost.
+func (c *Conn) rewind() {
 	c.board, _ = scoreboard.Timeout(c.board)
 	c.board.Nxt = c.board.Una
+}
+
+// redo begins to send all again that is on its way, as if nothing were.
+func (c *Conn) redo() {
+	c.rewind()
 	c.mend = mend{phase: redoing, point: c.nxt}
 }
 
