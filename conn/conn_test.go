@@ -322,8 +322,11 @@ func TestAcceptP25_1(t *testing.T) {
 func TestNotMade(t *testing.T) {
 	for _, c := range []*conn.Conn{nil, {}} {
 		_, e1 := c.Out(-1)
-		_, e2 := c.Write(nil)
-		_, e3 := c.Read(-1)
+		n, e2 := c.Write([]byte("x"))
+		b, e3 := c.Read(-1)
+		if n != 0 || b != nil {
+			t.Errorf("Write or Read of nothing: %d, %v", n, b)
+		}
 		for i, e := range []api.Errno{e1, e2, e3, c.Input(api.Tcp{}, true, -1), c.Tick(-1), c.Grow(-1), c.Shut(), c.Abort()} {
 			if e != api.ErrMade {
 				t.Errorf("call %d: %d", i, e)

@@ -89,7 +89,6 @@ func (c *Conn) establish(s api.Tcp) {
 		c.state = finWait1
 	}
 	c.board, _, _ = scoreboard.Ack(c.board, s.Ack, nil)
-	c.edge = c.board.Una
 	c.grant(s)
 	took, _, _ := c.arrivals()
 	c.sample(took)
@@ -256,11 +255,8 @@ func (c *Conn) learn(n int) {
 	c.control.Ack(grow, c.now, took, octets, c.rate.Rounds, c.pipe())
 }
 
-// sample takes how long an answer took.
+// sample takes how long an answer took; noRtt is refused.
 func (c *Conn) sample(took int) {
-	if took == noRtt {
-		return
-	}
 	if s, e := rtt.Sample(c.config.Rtt, c.times, took); e == api.OK {
 		c.times = s
 	}
@@ -323,7 +319,7 @@ func (c *Conn) receive(s api.Tcp) {
 		return
 	}
 	c.due.ack = c.due.ack || tcpwire.Length(s) > 0
-	if !within(c.state, established, finWait2) {
+	if c.finTaken {
 		return
 	}
 	seq, data, fin := s.Seq, s.Data, s.Flags&api.FIN != 0

@@ -16,7 +16,6 @@ func (c *Conn) Tick(now int) api.Errno {
 	if c.runs && now >= c.at {
 		c.expire()
 	}
-	c.settle()
 	return api.OK
 }
 
@@ -59,7 +58,6 @@ func (c *Conn) restart() {
 // rest comes to time-wait, or begins it anew.
 func (c *Conn) rest() {
 	c.state = timeWait
-	c.mend = mend{}
 	c.timer = timer{runs: true, at: c.now + 2*c.config.MSL}
 }
 
@@ -85,7 +83,6 @@ func (c *Conn) expire() {
 	default:
 		c.reduce(c.control.Timeout, ahead(c.board.Una, c.nxt))
 		c.redo()
-		c.forced = true
 	}
 }
 

@@ -226,8 +226,10 @@ func TestShowP29_4(t *testing.T) {
 			allOK(t, d, line)
 			l = append(l, x)
 		}
-		c.Shards, c.MTU, c.Every, c.Limit, c.Quantum, c.Conn.Kind, c.Conn.MSS = 1+r.Intn(4), 600+r.Intn(900), 1+r.Intn(4), 5+r.Intn(90), 1+r.Intn(2000), 1+r.Intn(4), 100+r.Intn(900)
-		allOK(t, d, "shards "+dec(c.Shards), "mtu "+dec(c.MTU), "every "+dec(c.Every), "limit "+dec(c.Limit), "quantum "+dec(c.Quantum), "kind "+dec(c.Conn.Kind), "mss "+dec(c.Conn.MSS))
+		if seed%2 == 0 { // else all is as it is at first
+			c.Shards, c.MTU, c.Every, c.Limit, c.Quantum, c.Conn.Kind, c.Conn.MSS = 1+r.Intn(4), 600+r.Intn(900), 1+r.Intn(4), 5+r.Intn(90), 1+r.Intn(2000), 1+r.Intn(4), 100+r.Intn(900)
+			allOK(t, d, "shards "+dec(c.Shards), "mtu "+dec(c.MTU), "every "+dec(c.Every), "limit "+dec(c.Limit), "quantum "+dec(c.Quantum), "kind "+dec(c.Conn.Kind), "mss "+dec(c.Conn.MSS))
+		}
 		put("listen 1 80", stacks.Event{What: 0, Host: 1, A: 80})
 		for range 300 {
 			h, a, n := r.Intn(2), r.Intn(4), r.Intn(100)
@@ -238,11 +240,11 @@ func TestShowP29_4(t *testing.T) {
 			case 1:
 				put("accept"+at, stacks.Event{What: 2, Host: h, A: a})
 			case 2:
-				b := make([]byte, n)
+				b := make([]byte, n*n/2)
 				r.Read(b)
 				put("write"+at+" "+hexOf(b), stacks.Event{What: 3, Host: h, A: a, Data: b})
 			case 3:
-				put("read"+at+" "+dec(n), stacks.Event{What: 4, Host: h, A: a, B: n})
+				put("read"+at+" "+dec(n*n), stacks.Event{What: 4, Host: h, A: a, B: n * n})
 			case 4:
 				if n < 5 {
 					put("shut"+at, stacks.Event{What: 5, Host: h, A: a})
@@ -360,6 +362,44 @@ func TestLongReportP29_2(t *testing.T) {
 	cut = cut[:strings.LastIndex(cut, "\n")+1]
 	if got, e := desk.Session(text); got != cut || e != api.ErrLong {
 		t.Errorf("%d octets, %d; want %d", len(got), e, len(cut))
+	}
+}
+
+// TestFullReportP29_2: a report of just MaxReport octets is whole.
+func TestFullReportP29_2(t *testing.T) {
+	var text, report strings.Builder
+	d := desk.New()
+	do := func(lines ...string) {
+		for _, line := range lines {
+			told, _ := d.Do(line)
+			text.WriteString(line + "\n")
+			report.WriteString("> " + line + "\n" + told)
+		}
+	}
+	// Of two sizes, the second one for what the first leaves.
+	for _, size := range []int{24000, 300} {
+		do("clear")
+		do(joined()...)
+		for range size / 300 {
+			do("write 0 0 " + strings.Repeat("ab", 300))
+		}
+		do(turns(3)...)
+		before := report.Len()
+		do("finish 60")
+		for more := report.Len() - before; report.Len()+more+1000 < maxReport; {
+			do("finish 60")
+		}
+	}
+	last := maxReport - report.Len() - len("> \n! 291\n")
+	for _, n := range []int{last, last + 1} {
+		whole := "> " + strings.Repeat("x", n) + "\n! 291\n"
+		want, errno := report.String()+whole, api.OK
+		if n > last {
+			want, errno = report.String()+whole[:n+3], api.ErrLong
+		}
+		if got, e := desk.Session(text.String() + strings.Repeat("x", n)); got != want || e != errno {
+			t.Errorf("%d octets, %d; want %d, %d", len(got), e, len(want), errno)
+		}
 	}
 }
 

@@ -450,6 +450,67 @@ func TestCloseP26_3(t *testing.T) {
 	same(t, "Close", s.Close(1), api.OK)
 }
 
+// TestGone: what no number names any more, and is over, is gone; what one names
+// stays.
+func TestGone(t *testing.T) {
+	s := accepted(t, config())
+	in(t, s, api.Tcp{SrcPort: 5, DstPort: 80, Seq: 1001, Flags: api.RST})
+	same(t, "Len", s.Len(), 1)
+	i, e := s.Info(1)
+	same(t, "Info", []any{i.State, i.Err, e}, []any{0, api.ErrReset, api.OK})
+	s.Close(1)
+	same(t, "Len", s.Len(), 0)
+	in(t, s, api.Tcp{SrcPort: 5, DstPort: 80, Seq: 1001, Ack: 9, Flags: api.ACK})
+	if l := out(t, s, 0); len(l) != 1 || l[0].Seg.Flags != api.RST || l[0].Seg.Seq != 9 {
+		t.Errorf("Out: %+v", l)
+	}
+	in(t, s, syn(5, 80)) // the same ports again
+	same(t, "Len", s.Len(), 1)
+	shake(t, s, 5, 80)
+	number(t, 2)(s.Accept(0))
+
+	// What was not read when it was closed makes room.
+	in(t, s, api.Tcp{SrcPort: 5, DstPort: 80, Seq: 1001, Ack: 100002, Flags: api.ACK, Data: make([]byte, 1000)})
+	if l := out(t, s, 0); len(l) != 1 || l[0].Seg.Window != 0 {
+		t.Errorf("Out: %+v", l)
+	}
+	s.Close(2)
+	if l := out(t, s, 0); len(l) == 0 || l[0].Seg.Window != 1000 {
+		t.Errorf("Out: %+v", l)
+	}
+}
+
+func TestTimeP26_2(t *testing.T) {
+	for what, call := range map[string]func(s *sock.Stack) api.Errno{
+		"Connect": func(s *sock.Stack) api.Errno { _, e := s.Connect(3, 80, 1, 50); return e },
+		"Input":   func(s *sock.Stack) api.Errno { return s.Input(peer, syn(6, 9), false, 50) },
+		"its own": func(s *sock.Stack) api.Errno {
+			return s.Input(peer, api.Tcp{SrcPort: 5, DstPort: 80, Seq: 1001, Ack: 2, Flags: api.ACK}, false, 50)
+		},
+		"Tick": func(s *sock.Stack) api.Errno { return s.Tick(50) },
+		"Out":  func(s *sock.Stack) api.Errno { _, e := s.Out(50); return e },
+	} {
+		s := accepted(t, config())
+		if e := call(s); e != api.OK {
+			t.Errorf("%s: %d", what, e)
+		}
+		if e := s.Tick(49); e != api.ErrOrder {
+			t.Errorf("Tick behind %s: %d", what, e)
+		}
+		if e := s.Tick(maxTick); e != api.OK {
+			t.Errorf("Tick at the end: %d", e)
+		}
+		if e := s.Tick(maxTick + 1); e != api.ErrOrder {
+			t.Errorf("Tick behind it: %d", e)
+		}
+	}
+	// What a connection refuses is no earlier call.
+	s := accepted(t, config())
+	s.Abort(1)
+	same(t, "Input", s.Input(peer, api.Tcp{SrcPort: 5, DstPort: 80}, false, 50), api.ErrClosed)
+	same(t, "Tick", s.Tick(49), api.OK)
+}
+
 func TestBacklogP26_4(t *testing.T) {
 	s := made(t, changed(func(c *sock.Config) { c.Most = 2 }))
 	number(t, 0)(s.Listen(80, 2))

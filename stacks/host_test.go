@@ -9,6 +9,7 @@ import (
 	"stopcock/ether"
 	"stopcock/ipwire"
 	"stopcock/rtt"
+	"stopcock/shard"
 )
 
 func hostOf(every, limit int) *host {
@@ -99,6 +100,112 @@ func TestPaceG4(t *testing.T) {
 	ids, ticks, _ := leaves(h, 1000, 1400)
 	same(t, "order", ids, []uint16{1, 2, 11, 12, 3, 4})
 	same(t, "ticks", ticks, []int{1000, 1001, 1002, 1003, 1100, 1200})
+}
+
+func TestAddresses(t *testing.T) {
+	for place, want := range [][2]uint32{{0x0a000001, 0x0a000002}, {0x0a000002, 0x0a000001}} {
+		h := newHost(Config{Shards: 1, MTU: 1500, Every: 1, Limit: 1, Quantum: 1}, place)
+		same(t, "addresses", [2]uint32{h.ip, h.peer}, want)
+	}
+}
+
+// TestFlows: one flow a connection, as long as there are as many; the first one
+// is no connection's.
+func TestFlows(t *testing.T) {
+	h := hostOf(1, 100)
+	same(t, "the first one", h.flows[0].number, 0)
+	seen := map[int]int{0: 1}
+	for i := range 1023 {
+		f := h.flowOf(key{1, 1, uint16(i)})
+		if f != h.flowOf(key{1, 1, uint16(i)}) {
+			t.Fatal("two flows of one connection")
+		}
+		seen[f.number]++
+	}
+	for n := range 1024 {
+		same(t, "flows of a number", seen[n], 1)
+	}
+	same(t, "one more", h.flowOf(key{2, 1, 1}).number, 1)
+}
+
+// TestFlowBy: a frame is known by its ports, if it has any.
+func TestFlowBy(t *testing.T) {
+	h := hostOf(1, 100)
+	frame := func(p api.IP) []byte {
+		b, _ := ipwire.Build(p)
+		out, _ := ether.Build(api.Ether{Type: typeIP, Data: b})
+		return out
+	}
+	ports := []byte{1, 2, 3, 4}
+	own := h.flowOf(key{7, 0x0102, 0x0304})
+	for _, x := range []struct {
+		frame []byte
+		want  *flow
+	}{
+		{frame(api.IP{Proto: protoTCP, Dst: 7, Data: ports}), own},
+		{frame(api.IP{Proto: protoTCP, Dst: 7, Data: append(ports, 5)}), own},
+		{frame(api.IP{Proto: protoTCP, Dst: 7, MF: true, Data: append(ports, 5, 6, 7, 8)}), own},
+		{frame(api.IP{Proto: protoTCP, Dst: 7, Offset: 8, Data: ports}), h.flows[0]},
+		{frame(api.IP{Proto: protoTCP, Dst: 7, Data: ports[:3]}), h.flows[0]},
+		{frame(api.IP{Proto: 17, Dst: 7, Data: ports}), h.flows[0]},
+		{nil, h.flows[0]},
+		{make([]byte, 60), h.flows[0]},
+	} {
+		if got := h.flowBy(x.frame); got != x.want {
+			t.Errorf("%v: the flow %d; want %d", x.frame, got.number, x.want.number)
+		}
+	}
+	if got := h.flowBy(frame(api.IP{Proto: protoTCP, Dst: 8, Data: ports})); got == own || got == h.flows[0] {
+		t.Error("another peer's frame has the same flow")
+	}
+}
+
+// TestSlow: what has no departure yet waits, as much as the pacer takes; then the
+// queue fills, and what is no connection's passes it by.
+func TestSlow(t *testing.T) {
+	h := hostOf(1, 4096)
+	a := h.flowOf(key{1, 1, 1})
+	a.rate = 1
+	for range 4200 {
+		put(h, a, 0, 1)
+	}
+	same(t, "waiting", []int{a.pace.Len(), h.queue.Len(), h.card.Waiting(), len(h.parcels)}, []int{4096, 103, 1, 4199})
+	h = hostOf(1, 4096)
+	a = h.flowOf(key{1, 1, 1})
+	a.rate = 1
+	put(h, a, 0, 1, 2, 3)
+	arp, _ := ether.Build(api.Ether{Type: 2054, Data: make([]byte, 28)})
+	h.enqueue(arp, a, 0)
+	same(t, "waiting", []int{a.pace.Len(), h.card.Waiting()}, []int{2, 2})
+}
+
+// TestDropped: what CoDel drops is not kept.
+func TestDropped(t *testing.T) {
+	h := hostOf(30, 100)
+	a := h.flowOf(key{1, 1, 1})
+	for range 30 {
+		b, _ := ipwire.Build(api.IP{TTL: 9, Proto: protoTCP, Src: firstIP, Dst: firstIP + 1, Data: make([]byte, 966)})
+		frame, _ := ether.Build(api.Ether{Type: typeIP, Data: b})
+		h.enqueue(frame, a, 0)
+	}
+	ids, _, marks := leaves(h, 0, 1000)
+	if len(ids) >= 30 || marks != 0 || len(h.parcels) != 0 {
+		t.Errorf("%d frames left, %d marked, %d are kept", len(ids), marks, len(h.parcels))
+	}
+}
+
+// TestFragments: what is too long for the network goes in fragments, all of them
+// by its flow.
+func TestFragments(t *testing.T) {
+	h := hostOf(1, 100)
+	b, _ := ether.BuildArp(api.Arp{Op: 2, SrcMac: firstMac + 1, SrcIP: firstIP + 1, DstMac: firstMac, DstIP: firstIP})
+	frame, _ := ether.Build(api.Ether{Dst: firstMac, Src: firstMac + 1, Type: 2054, Data: b})
+	h.arrive(frame, 0)
+	h.output(shard.Packet{Peer: firstIP + 1, Seg: api.Tcp{SrcPort: 1, DstPort: 2, Flags: api.ACK, Data: make([]byte, 1470)}, Rate: 1}, 0)
+	f := h.flowOf(key{firstIP + 1, 1, 2})
+	same(t, "waiting", []int{f.pace.Len(), h.card.Waiting()}, []int{1, 1})
+	h.output(shard.Packet{Peer: firstIP + 1, Seg: api.Tcp{SrcPort: 1, DstPort: 2, Flags: api.ACK, Data: make([]byte, 1460)}, Rate: 1}, 0)
+	same(t, "waiting", []int{f.pace.Len(), h.card.Waiting()}, []int{2, 1})
 }
 
 func TestMarkFrame(t *testing.T) {

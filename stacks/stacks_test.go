@@ -158,6 +158,8 @@ func TestCountP28_1(t *testing.T) {
 		{make([]stacks.Event, 4097), api.ErrCount},
 		{append(slices.Repeat([]stacks.Event{{What: pass, A: 10000}}, 104), stacks.Event{What: pass, A: 8576}), api.OK},
 		{append(slices.Repeat([]stacks.Event{{What: pass, A: 10000}}, 104), stacks.Event{What: pass, A: 8577}), api.ErrCount},
+		{append(slices.Repeat([]stacks.Event{{What: pass, A: 10000}}, 104), stacks.Event{What: pass, A: 8576}, stacks.Event{What: pass, A: 1}), api.ErrCount},
+		{slices.Repeat([]stacks.Event{{What: read, A: 10000}}, 200), api.OK},
 		{[]stacks.Event{{What: pass, A: math.MaxInt}, {What: pass, A: math.MaxInt}}, api.OK}, // such a one passes no tick
 	} {
 		if _, e := stacks.Run(config(), x.l); e != x.want {
@@ -358,21 +360,59 @@ func TestLostMarked(t *testing.T) {
 		same(t, "Lost", r.Lost, want)
 		same(t, "Marked", r.Marked, 0)
 	}
-	// A mark makes Reno's window less: it is heard of at the other end. Of 12
-	// segments 10 go at once; behind the mark 5 are let go, not 11.
+	// A single octet goes as ECT, too.
 	s = joined()
-	s.write(0, 0, string(make([]byte, 4000)))
-	s.turns(3)
-	s.write(0, 0, string(make([]byte, 4000)))
-	s.turns(1)
-	c := changed(func(c *stacks.Config) { c.Conn.MSS = 200; c.Conn.Send, c.Conn.Recv = 20000, 20000 })
-	plain := play(t, c, s).Sent[0]
-	c.Fates = make([]stacks.Fate, 6)
-	c.Fates[5].Kind = marked
-	r := play(t, c, s)
-	same(t, "Marked", r.Marked, 1)
-	if r.Sent[0] > plain {
-		t.Errorf("%d frames behind a mark, %d without", r.Sent[0], plain)
+	s.write(0, 0, "x")
+	s.turns(5)
+	c := changed(func(c *stacks.Config) { c.Fates = make([]stacks.Fate, 6); c.Fates[5].Kind = marked })
+	same(t, "Marked", play(t, c, s).Marked, 1)
+	// A mark makes Reno's window less: it is heard of at the other end.
+	s = joined()
+	s.write(0, 0, string(make([]byte, 20000)))
+	for range 4 {
+		s.do(run, 0, 2, 0)
+		s.do(pass, 0, 20, 0)
+		s.do(run, 1, 2, 0)
+		s.do(pass, 0, 20, 0)
+	}
+	c.Conn.MSS, c.Conn.Send, c.Conn.Recv = 200, 20000, 20000
+	marks := play(t, c, s)
+	c.Fates = nil
+	plain := play(t, c, s)
+	if marks.Marked != 1 || plain.Marked != 0 || marks.Sent[0]+10 > plain.Sent[0] {
+		t.Errorf("%d frames behind a mark, %d without", marks.Sent[0], plain.Sent[0])
+	}
+}
+
+// TestTwice: a SYN that nobody listens to is refused as often as it comes.
+func TestTwice(t *testing.T) {
+	s := &script{}
+	s.do(connect, 0, 0, 80)
+	s.turns(10)
+	c := config()
+	same(t, "Sent", play(t, c, s).Sent, [2]int{2, 2})
+	c.Fates = []stacks.Fate{{}, {}, {Kind: twice}}
+	same(t, "Sent", play(t, c, s).Sent, [2]int{2, 3})
+}
+
+// TestPorts: each connection has a port of its own.
+func TestPorts(t *testing.T) {
+	for shards := 1; shards <= 4; shards++ {
+		s := &script{}
+		s.do(listen, 1, 0, 0)
+		for i := range 100 {
+			s.do(connect, 0, i*i%shards, 0)
+		}
+		s.turns(800)
+		for range 100 {
+			s.do(accept, 1, 0, 0)
+		}
+		r := play(t, changed(func(c *stacks.Config) { c.Shards = shards; c.Conn.Send, c.Conn.Recv = 10, 10 }), s)
+		for i, a := range r.Answers {
+			if a.Err != api.OK {
+				t.Fatalf("%d shards: event %+v: %d", shards, s.l[i], a.Err)
+			}
+		}
 	}
 }
 
@@ -495,6 +535,46 @@ func TestFinishP28_2(t *testing.T) {
 	s.do(shut, 1, 1, 0)
 	if r = finish(changed(func(c *stacks.Config) { c.Conn.MSL = 1 << 30 }), s, 1<<20); r.Now > 1000 {
 		t.Errorf("%d ticks", r.Now)
+	}
+}
+
+// TestNothingLeftP28_2: where Finish ends, more rounds send nothing more.
+func TestNothingLeftP28_2(t *testing.T) {
+	for seed := range int64(40) {
+		r := rand.New(rand.NewSource(seed))
+		c := changed(func(c *stacks.Config) {
+			c.Every = []int{1, 3, 20}[r.Intn(3)]
+			c.Conn.MSS, c.Conn.Send, c.Conn.Recv, c.Conn.Kind = 50+r.Intn(900), 1+r.Intn(1500), 1+r.Intn(1500), 1+r.Intn(2)
+			for range 30 {
+				c.Fates = append(c.Fates, stacks.Fate{Kind: r.Intn(6) * r.Intn(2), N: r.Intn(40)})
+			}
+		})
+		s := joined()
+		s.turns(c.Every * 10)
+		s.do(accept, 1, 0, 0)
+		s.write(0, 0, text(r, r.Intn(1500)))
+		s.write(1, 1, text(r, r.Intn(1500)))
+		if r.Intn(2) == 0 {
+			s.do(shut, 0, 0, 0)
+			s.do(shut, 1, 1, 0)
+		}
+		before := play(t, c, s)
+		x, _ := stacks.Finish(c, s.l, 1<<20)
+		rounds := x.Now - before.Now + 50
+		if rounds*5 > 4096-len(s.l) { // too long to be put down
+			continue
+		}
+		for range rounds {
+			s.do(run, 0, 2, 0)
+			s.do(run, 1, 2, 0)
+			s.do(read, 0, 0, 5000)
+			s.do(read, 1, 1, 5000)
+			s.do(pass, 0, 1, 0)
+		}
+		y := play(t, c, s)
+		if x.Sent != y.Sent || !reflect.DeepEqual(x.Read, y.Read) || x.Lost != y.Lost {
+			t.Fatalf("seed %d: at %d Finish had sent %v, later that was %v", seed, x.Now, x.Sent, y.Sent)
+		}
 	}
 }
 
