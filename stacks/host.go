@@ -36,6 +36,8 @@ const (
 	target   = 5 // CoDel's ticks
 	interval = 100
 
+	maxRate = 1 << 30 // of octets in 1024 ticks
+
 	protoTCP = 6
 	typeIP   = 2048
 	portSize = 2
@@ -302,11 +304,15 @@ func (h *host) pull(now int) bool {
 		x.frame, _ = markFrame(x.frame)
 		h.parcels[r.Out.ID] = x
 	}
-	if x.flow.rate == 0 { // as fast as may be
+	rate := x.flow.rate
+	if rate == 0 && x.flow.pace.Len() == 0 { // as fast as may be
 		h.hand(r.Out.ID)
 		return true
 	}
-	x.flow.pace.Push(r.Out.ID, r.Out.Size, x.flow.rate, h.quantum, now)
+	if rate == 0 { // behind those that wait
+		rate = maxRate
+	}
+	x.flow.pace.Push(r.Out.ID, r.Out.Size, rate, h.quantum, now)
 	h.release(x.flow, now)
 	return true
 }

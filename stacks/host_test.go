@@ -100,6 +100,16 @@ func TestPaceG4(t *testing.T) {
 	ids, ticks, _ := leaves(h, 1000, 1400)
 	same(t, "order", ids, []uint16{1, 2, 11, 12, 3, 4})
 	same(t, "ticks", ticks, []int{1000, 1001, 1002, 1003, 1100, 1200})
+	// Where there is no rate any more they leave behind those that wait by one.
+	h = hostOf(1, 100)
+	a = h.flowOf(key{1, 1, 1})
+	a.rate = 10240
+	put(h, a, 1000, 1, 2, 3)
+	a.rate = 0
+	put(h, a, 1000, 4, 5)
+	ids, ticks, _ = leaves(h, 1000, 1400)
+	same(t, "order", ids, []uint16{1, 2, 3, 4, 5})
+	same(t, "ticks", ticks[2:], []int{1100, 1200, 1201})
 }
 
 func TestAddresses(t *testing.T) {
