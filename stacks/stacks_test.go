@@ -578,6 +578,28 @@ func TestNothingLeftP28_2(t *testing.T) {
 	}
 }
 
+// TestRefusedP28_2: what waits for its tick in the card is left to be sent,
+// though no socket waits for it: three connections that nobody took are aborted.
+func TestRefusedP28_2(t *testing.T) {
+	s := &script{}
+	s.do(listen, 1, 80, 0)
+	for i := range 3 {
+		s.do(connect, 0, i%2, 80)
+	}
+	s.turns(300)
+	s.do(closes, 1, 0, 0)
+	for every, want := range map[int][2]int{1: {7, 7}, 20: {7, 7}} {
+		c := changed(func(c *stacks.Config) {
+			c.Every = every
+			c.Conn.Rtt = rtt.Params{Init: 5000, Min: 5000, Max: 5000, Grain: 1}
+		})
+		x, e := stacks.Finish(c, s.l, 1000)
+		if e != api.OK || x.Sent != want {
+			t.Errorf("Every %d: %v frames, %d; want %v", every, x.Sent, e, want)
+		}
+	}
+}
+
 func TestMemoryP28_7(t *testing.T) {
 	c := changed(func(c *stacks.Config) {
 		c.Fates = []stacks.Fate{{Kind: late, N: 2}}
