@@ -161,6 +161,8 @@ func TestCountP28_1(t *testing.T) {
 		{append(slices.Repeat([]stacks.Event{{What: pass, A: 10000}}, 104), stacks.Event{What: pass, A: 8576}, stacks.Event{What: pass, A: 1}), api.ErrCount},
 		{slices.Repeat([]stacks.Event{{What: read, A: 10000}}, 200), api.OK},
 		{[]stacks.Event{{What: pass, A: math.MaxInt}, {What: pass, A: math.MaxInt}}, api.OK}, // such a one passes no tick
+		{slices.Repeat([]stacks.Event{{What: pass, Host: 2, A: 10000}}, 200), api.OK},        // nor does one of no host
+		{slices.Repeat([]stacks.Event{{What: pass, Host: 1, A: 10000}}, 105), api.ErrCount},
 	} {
 		if _, e := stacks.Run(config(), x.l); e != x.want {
 			t.Errorf("Run of %d events: %d; want %d", len(x.l), e, x.want)
@@ -191,11 +193,12 @@ func TestArgP28_1(t *testing.T) {
 		{What: shut, A: 1}, {What: shut, Host: 2}, {What: closes, A: 1}, {What: closes, Host: 2},
 		{What: run, Host: 2}, {What: run, A: -1}, {What: run, A: 65}, {What: run, A: 1, B: -1},
 		{What: pass, A: 0}, {What: pass, A: -1}, {What: pass, A: 10001},
+		{What: pass, Host: -1, A: 1}, {What: pass, Host: 2, A: 1}, {What: pass, Host: math.MinInt, A: 5}, {What: pass, Host: math.MaxInt, A: 10000}, {What: pass, Host: 2},
 	} {
 		s.l = append(s.l, x)
 	}
 	last := len(s.l)
-	for _, x := range []stacks.Event{{What: run, A: 0}, {What: run, A: 64, B: math.MaxInt}, {What: pass, A: 1}, {What: pass, A: 10000}, {What: listen, Host: 1, A: 65535}, {What: listen, A: 0}} {
+	for _, x := range []stacks.Event{{What: run, A: 0}, {What: run, A: 64, B: math.MaxInt}, {What: pass, A: 1}, {What: pass, Host: 1, A: 10000}, {What: listen, Host: 1, A: 65535}, {What: listen, A: 0}} {
 		s.l = append(s.l, x)
 	}
 	r := play(t, config(), s)
@@ -208,6 +211,32 @@ func TestArgP28_1(t *testing.T) {
 		}
 	}
 	same(t, "Now", r.Now, 8+10001)
+}
+
+// TestNoTimeP28_1: by a refused event nothing that flies arrives, and no card
+// gives out a frame; what comes behind it finds all as it was.
+func TestNoTimeP28_1(t *testing.T) {
+	s := joined()
+	s.write(0, 0, "hello")
+	s.do(run, 0, 2, 0)
+	s.do(pass, 0, 1, 0)
+	plain := *s
+	plain.l = slices.Clone(s.l)
+	for _, host := range []int{-1, 2, math.MaxInt} {
+		s.do(pass, host, 100, 0)
+	}
+	refused := len(s.l)
+	for _, x := range []*script{s, &plain} {
+		x.do(run, 1, 2, 0)
+		x.do(pass, 1, 3, 0)
+		x.do(read, 1, 1, 10)
+	}
+	got, want := play(t, config(), s), play(t, config(), &plain)
+	for i := refused - 3; i < refused; i++ {
+		same(t, "a refused event", got.Answers[i], stacks.Answer{Err: api.ErrArg})
+	}
+	got.Answers = slices.Delete(got.Answers, refused-3, refused)
+	same(t, "Report", got, want)
 }
 
 func TestPlacesP28_1(t *testing.T) {
